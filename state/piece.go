@@ -4,20 +4,22 @@ import (
 	"slices"
 
 	"streamwright/api"
+	"streamwright/pieces"
 	"streamwright/scan"
+	"streamwright/tuple"
 	"streamwright/value"
 	"streamwright/wire"
 )
 
 // Save writes what each group has as bytes, group by group.
 func (s *Store) Save() []api.Piece {
-	var pieces []api.Piece
+	var l []api.Piece
 	for group, cells := range s.byGroup() {
 		if len(cells) > 0 {
-			pieces = append(pieces, api.Piece{Group: group, Bytes: sealed(cells)})
+			l = append(l, api.Piece{Group: group, Bytes: sealed(cells)})
 		}
 	}
-	return pieces
+	return l
 }
 
 // byGroup gives the cells of each group, in order, where they are kept.
@@ -49,7 +51,7 @@ func sealed(cells []Cell) []byte {
 
 // putCell writes a cell behind bytes.
 func putCell(b []byte, c Cell) []byte {
-	b = putValues(putCount(b, len(c.Key)), c.Key)
+	b = tuple.Put(putCount(b, len(c.Key)), c.Key)
 	b = wire.PutInt(b, c.Window.From)
 	b = wire.PutInt(b, c.Window.To)
 	return append(putCount(b, len(c.Data)), c.Data...)
@@ -59,44 +61,18 @@ func putCell(b []byte, c Cell) []byte {
 func putCount(b []byte, n int) []byte { return wire.PutInt(b, int64(n)) }
 
 // Load forgets all, and reads the pieces of its groups.
-func (s *Store) Load(pieces []api.Piece) error {
+func (s *Store) Load(l []api.Piece) error {
 	// What was kept stays as it is until nothing can go wrong any more.
 	fresh := empty(s.lo, s.hi)
-	var met [api.Groups]bool
-	for _, p := range pieces {
-		if p.Group < 0 || p.Group >= api.Groups {
-			return api.ErrRange
-		}
-		if met[p.Group] {
-			return api.ErrState
-		}
-		met[p.Group] = true
-		if !s.has(p.Group) {
-			continue
-		}
-		if err := fresh.takePiece(p); err != nil {
-			return err
-		}
+	if err := pieces.Read(l, s.lo, s.hi, fresh.takeBody); err != nil {
+		return err
 	}
 	*s = *fresh
 	return nil
 }
 
-// takePiece puts the cells of a piece of the store's groups beside those that
-// are there.
-func (s *Store) takePiece(p api.Piece) error {
-	body, end, err := wire.Open(p.Bytes, 0)
-	if err != nil {
-		return err
-	}
-	if end < len(p.Bytes) || !s.takeBody(body, p.Group) {
-		return api.ErrWire
-	}
-	return nil
-}
-
 // takeBody puts the cells of a body there; false: it is none of this group.
-func (s *Store) takeBody(body []byte, group int) bool {
+func (s *Store) takeBody(group int, body []byte) bool {
 	r := &scan.Reader{Rest: body}
 	n, ok := r.Count()
 	if !ok {
