@@ -13,9 +13,9 @@ import (
 	"streamwright/wire"
 )
 
-// Save gives what it keeps, group by group. A piece has, sealed, the form of
-// the operator, how many rows there are, and of each: the input, how many of
-// its windows were given out, its time, how many values, and they.
+// Save gives what it keeps, group by group. A piece has, sealed part by part,
+// the form of the operator, how many rows there are, and of each: the input,
+// how many of its windows were given out, its time, how many values, and they.
 func (o *Operator) Save() []api.Piece {
 	var l []api.Piece
 	for group, rows := range o.byGroup() {
@@ -50,9 +50,7 @@ func (o *Operator) sealed(rows []kept) []byte {
 	for _, one := range rows {
 		body = putKept(body, one)
 	}
-	// The rows that a job can bring are far fewer than fill a body.
-	b, _ := wire.Seal(body)
-	return b
+	return inParts(body)
 }
 
 func putKept(b []byte, one kept) []byte {
@@ -93,15 +91,21 @@ func listed[T any](l []T, as func(T) api.Value) api.Row {
 func (o *Operator) Load(l []api.Piece) error {
 	// What was kept stays as it is until nothing can go wrong any more.
 	fresh := empty(o.op, o.lo, o.hi)
-	if err := pieces.Read(l, o.lo, o.hi, fresh.takeBody); err != nil {
+	if err := pieces.Read(l, o.lo, o.hi, fresh.takeParts); err != nil {
 		return err
 	}
 	*o = *fresh
 	return nil
 }
 
-// takeBody lays the rows of a body there; false: no operator of this form has
-// saved it of this group.
+// takeParts lays the rows of a body there that is sealed part by part; false:
+// no operator of this form has saved it of this group.
+func (o *Operator) takeParts(group int, first, behind []byte) bool {
+	body, ok := ofParts(first, behind)
+	return ok && o.takeBody(group, body)
+}
+
+// takeBody lays the rows of a body there.
 func (o *Operator) takeBody(group int, body []byte) bool {
 	rest, ok := bytes.CutPrefix(body, form(o.op))
 	if !ok || !o.keeps() {

@@ -6,10 +6,11 @@ import (
 	"streamwright/wire"
 )
 
-// Read hands the bodies of the pieces of the groups from lo to ahead of hi to
-// a function, which tells whether it can take them, in the order of the
-// pieces; it ends with the first fault, as doc/07-state.md says (K4).
-func Read(l []api.Piece, lo, hi int, take func(group int, body []byte) bool) error {
+// Read hands, of the pieces of the groups from lo to ahead of hi, the body
+// that is sealed at their beginning and the bytes behind it to a function,
+// which tells whether it can take them, in the order of the pieces; it ends
+// with the first fault, as doc/07-state.md says (K4).
+func Read(l []api.Piece, lo, hi int, take func(group int, body, behind []byte) bool) error {
 	var met [api.Groups]bool
 	for _, one := range l {
 		if one.Group < 0 || one.Group >= api.Groups {
@@ -26,7 +27,7 @@ func Read(l []api.Piece, lo, hi int, take func(group int, body []byte) bool) err
 		if err != nil {
 			return err
 		}
-		if end < len(one.Bytes) || !take(one.Group, body) {
+		if !take(one.Group, body, one.Bytes[end:]) {
 			return api.ErrWire
 		}
 	}

@@ -24,7 +24,7 @@ func turned(group int) api.Piece {
 }
 
 func TestK4Read(t *testing.T) {
-	behind := api.Piece{Group: 7, Bytes: append(piece(7, "body").Bytes, 0)}
+	behind := api.Piece{Group: 7, Bytes: append(piece(7, "body").Bytes, "xy"...)}
 	for i, c := range []struct {
 		l    []api.Piece
 		want api.Errno
@@ -36,12 +36,16 @@ func TestK4Read(t *testing.T) {
 		{[]api.Piece{{Group: -1}}, api.ErrRange, ""}, {[]api.Piece{{Group: 32}}, api.ErrRange, ""}, {[]api.Piece{{Group: math.MinInt}}, api.ErrRange, ""}, {[]api.Piece{{Group: math.MaxInt}}, api.ErrRange, ""},
 		{[]api.Piece{piece(5, "a"), piece(5, "a")}, api.ErrState, "5a "}, {[]api.Piece{{Group: 3}, {Group: 3}}, api.ErrState, ""},
 		{[]api.Piece{turned(5), {Group: 32}}, api.ErrSum, ""}, {[]api.Piece{{Group: 32}, turned(5)}, api.ErrRange, ""}, {[]api.Piece{piece(5, "a"), turned(5)}, api.ErrState, "5a "},
-		{[]api.Piece{{Group: 5}}, api.ErrWire, ""}, {[]api.Piece{behind, piece(5, "a")}, api.ErrWire, ""},
+		{[]api.Piece{{Group: 5}}, api.ErrWire, ""}, {[]api.Piece{behind, piece(5, "a")}, api.OK, "7body+xy 5a "},
 		{[]api.Piece{piece(6, "a"), piece(5, "no"), piece(7, "b")}, api.ErrWire, "6a 5no "},
 	} {
 		took := ""
-		err := pieces.Read(c.l, 5, 10, func(group int, body []byte) bool {
-			took += fmt.Sprintf("%d%s ", group, body)
+		err := pieces.Read(c.l, 5, 10, func(group int, body, behind []byte) bool {
+			took += fmt.Sprintf("%d%s", group, body)
+			if len(behind) > 0 {
+				took += "+" + string(behind)
+			}
+			took += " "
 			return string(body) != "no"
 		})
 		if plain.Told(err) != c.want || took != c.took {

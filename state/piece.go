@@ -71,11 +71,12 @@ func (s *Store) Load(l []api.Piece) error {
 	return nil
 }
 
-// takeBody puts the cells of a body there; false: it is none of this group.
-func (s *Store) takeBody(group int, body []byte) bool {
+// takeBody puts the cells of a body there; false: it is none of this group,
+// or something stands behind it.
+func (s *Store) takeBody(group int, body, behind []byte) bool {
 	r := &scan.Reader{Rest: body}
 	n, ok := r.Count()
-	if !ok {
+	if !ok || len(behind) > 0 {
 		return false
 	}
 	var last Cell
