@@ -4,6 +4,7 @@ import (
 	"fmt"
 	"math"
 	"math/rand"
+	"reflect"
 	"slices"
 	"strings"
 	"testing"
@@ -264,15 +265,27 @@ func TestG2OtherKinds(t *testing.T) {
 	takes(t, g, 1, time(1), "time 1")
 }
 
-// TestG2OneOfItsKind: what goes on of times and marks has nothing else.
+// TestG2OneOfItsKind: what goes on has what its kind names, and nothing else
+// that came in with it.
 func TestG2OneOfItsKind(t *testing.T) {
-	g := some(t, 1)
-	rows := api.Row{Time: 4, Values: []api.Value{value.Of(1)}}
-	for _, kind := range []int{api.ElemTime, api.ElemMark} {
-		l, err := g.Take(0, api.Elem{Kind: kind, Row: rows, Time: 4, Mark: 2})
-		if err != nil || len(l) != 1 || l[0].Row.Time != 0 || l[0].Row.Values != nil || l[0].Time*int64(l[0].Mark) != 0 {
-			t.Errorf("kind %d: %+v, %v", kind, l, err)
+	for _, r := range []api.Row{{}, {Time: 4, Values: []api.Value{value.Of(1), {}}}} {
+		for _, other := range []struct {
+			time int64
+			mark int
+		}{{4, 2}, {math.MinInt64, -1}, {math.MaxInt64, math.MaxInt}} {
+			goesOnAs(t, api.Elem{Kind: api.ElemRow, Row: r, Time: other.time, Mark: other.mark}, api.Elem{Kind: api.ElemRow, Row: r})
+			goesOnAs(t, api.Elem{Kind: api.ElemTime, Row: r, Time: 7, Mark: other.mark}, api.Elem{Kind: api.ElemTime, Time: 7})
+			goesOnAs(t, api.Elem{Kind: api.ElemMark, Row: r, Time: other.time, Mark: 3}, api.Elem{Kind: api.ElemMark, Mark: 3})
 		}
+	}
+}
+
+// goesOnAs checks all of what goes on of the first element of a gate.
+func goesOnAs(t *testing.T, e, want api.Elem) {
+	t.Helper()
+	l, err := some(t, 1).Take(0, e)
+	if err != nil || !reflect.DeepEqual(l, []api.Elem{want}) {
+		t.Errorf("Take(0, %+v): %+v, %v, want %+v", e, l, err, want)
 	}
 }
 
