@@ -2,12 +2,13 @@ package expr
 
 import (
 	"streamwright/api"
+	"streamwright/token"
 	"streamwright/value"
 )
 
 // parser reads tokens from the first one on; the last one is the end.
 type parser struct {
-	tokens []token
+	tokens []token.Token
 	level  int
 }
 
@@ -22,12 +23,21 @@ func parse(text string) node {
 	return tree
 }
 
+// tokens cuts a text; it throws what is none.
+func tokens(text string) []token.Token {
+	list, at, ok := token.Cut(text)
+	if !ok {
+		panic(fault{at, api.ErrSyntax})
+	}
+	return list
+}
+
 func (p *parser) or() node { return p.joined(orRank, p.and) }
 
 func (p *parser) and() node { return p.joined(andRank, p.not) }
 
 func (p *parser) not() node {
-	if p.next().text == "not" {
+	if p.next().Text == "not" {
 		return p.behind(notRank, p.not)
 	}
 	return p.comparison()
@@ -35,7 +45,7 @@ func (p *parser) not() node {
 
 func (p *parser) comparison() node {
 	left := p.sum()
-	if sign := p.next(); signRank(sign.text) == comparisonRank {
+	if sign := p.next(); signRank(sign.Text) == comparisonRank {
 		p.take()
 		return newInfix(sign, left, p.sum())
 	}
@@ -47,7 +57,7 @@ func (p *parser) sum() node { return p.joined(sumRank, p.product) }
 func (p *parser) product() node { return p.joined(productRank, p.minus) }
 
 func (p *parser) minus() node {
-	if p.next().text == "-" {
+	if p.next().Text == "-" {
 		return p.behind(minusRank, p.minus)
 	}
 	return p.first()
@@ -56,7 +66,7 @@ func (p *parser) minus() node {
 // joined reads parts with signs of a rank between them, from the left.
 func (p *parser) joined(r rank, part func() node) node {
 	left := part()
-	for signRank(p.next().text) == r {
+	for signRank(p.next().Text) == r {
 		sign := p.take()
 		left = newInfix(sign, left, part())
 	}
@@ -75,31 +85,31 @@ func (p *parser) behind(r rank, part func() node) node {
 func (p *parser) first() node {
 	t := p.take()
 	switch {
-	case t.kind == numberToken, t.kind == textToken, t.text == "true", t.text == "false":
-		v, err := value.Read(t.text)
+	case t.Kind == token.Number, t.Kind == token.Text, t.Text == "true", t.Text == "false":
+		v, err := value.Read(t.Text)
 		if err != nil {
-			panic(fault{t.at, api.ErrSyntax})
+			panic(fault{t.At, api.ErrSyntax})
 		}
 		return literal{v}
-	case t.text == "(":
+	case t.Text == "(":
 		p.enter(t)
 		n := p.or()
 		p.want(")")
 		p.leave()
 		return n
-	case t.kind == wordToken && !reserved(t.text):
+	case t.Kind == token.Word && !reserved(t.Text):
 		return p.named(t)
 	}
-	panic(fault{t.at, api.ErrSyntax})
+	panic(fault{t.At, api.ErrSyntax})
 }
 
 // named reads what may stand behind a name.
-func (p *parser) named(t token) node {
-	if len(t.text) > api.MaxName {
-		panic(fault{t.at, api.ErrRange})
+func (p *parser) named(t token.Token) node {
+	if len(t.Text) > api.MaxName {
+		panic(fault{t.At, api.ErrRange})
 	}
-	if p.next().text != "(" {
-		return column{t.at, t.text}
+	if p.next().Text != "(" {
+		return column{t.At, t.Text}
 	}
 	p.enter(p.take())
 	parts := p.arguments()
@@ -109,12 +119,12 @@ func (p *parser) named(t token) node {
 
 // arguments reads all behind a call's opening bracket.
 func (p *parser) arguments() []node {
-	if p.next().text == ")" {
+	if p.next().Text == ")" {
 		p.take()
 		return nil
 	}
 	parts := []node{p.or()}
-	for p.next().text == "," {
+	for p.next().Text == "," {
 		p.take()
 		parts = append(parts, p.or())
 	}
@@ -123,21 +133,21 @@ func (p *parser) arguments() []node {
 }
 
 // enter begins a level at a token.
-func (p *parser) enter(t token) {
+func (p *parser) enter(t token.Token) {
 	if p.level == api.MaxNest {
-		panic(fault{t.at, api.ErrRange})
+		panic(fault{t.At, api.ErrRange})
 	}
 	p.level++
 }
 
 func (p *parser) leave() { p.level-- }
 
-func (p *parser) next() token { return p.tokens[0] }
+func (p *parser) next() token.Token { return p.tokens[0] }
 
 // take gives the next token and goes behind it, but never behind the end.
-func (p *parser) take() token {
+func (p *parser) take() token.Token {
 	t := p.next()
-	if t.kind != endToken {
+	if t.Kind != token.End {
 		p.tokens = p.tokens[1:]
 	}
 	return t
@@ -145,7 +155,16 @@ func (p *parser) take() token {
 
 // want takes a token that must stand here (empty: the end).
 func (p *parser) want(text string) {
-	if t := p.take(); t.text != text {
-		panic(fault{t.at, api.ErrSyntax})
+	if t := p.take(); t.Text != text {
+		panic(fault{t.At, api.ErrSyntax})
 	}
+}
+
+// reserved tells whether a word can be no name.
+func reserved(word string) bool {
+	switch word {
+	case "and", "or", "not", "true", "false", "as":
+		return true
+	}
+	return false
 }

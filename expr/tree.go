@@ -1,6 +1,9 @@
 package expr
 
-import "streamwright/api"
+import (
+	"streamwright/api"
+	"streamwright/token"
+)
 
 // node is a part of an expression.
 type node interface {
@@ -49,17 +52,17 @@ type call struct {
 	known bool
 }
 
-func newPrefix(sign token, r rank, part node) prefix {
-	return prefix{applied{sign.at, prefixOperation(sign.text), []node{part}}, sign.text, r}
+func newPrefix(sign token.Token, r rank, part node) prefix {
+	return prefix{applied{sign.At, prefixOperation(sign.Text), []node{part}}, sign.Text, r}
 }
 
-func newInfix(sign token, left, right node) infix {
-	return infix{applied{sign.at, infixOperation(sign.text), []node{left, right}}, sign.text, signRank(sign.text)}
+func newInfix(sign token.Token, left, right node) infix {
+	return infix{applied{sign.At, infixOperation(sign.Text), []node{left, right}}, sign.Text, signRank(sign.Text)}
 }
 
-func newCall(name token, parts []node) call {
-	does, known := function(name.text)
-	return call{applied{name.at, does, parts}, name.text, known}
+func newCall(name token.Token, parts []node) call {
+	does, known := function(name.Text)
+	return call{applied{name.At, does, parts}, name.Text, known}
 }
 
 func (l literal) kindOver(cols []api.Column) api.Kind { return l.is.Kind }
