@@ -9,8 +9,8 @@ import (
 )
 
 // Reader goes along bytes: each of its methods reads one thing from the
-// beginning of the rest; false: there is none. What it gives is memory of its
-// own.
+// beginning of the rest; false: there is none. What it gives, but by Cut, is
+// memory of its own.
 type Reader struct {
 	Rest []byte // what is still to be read
 }
@@ -51,17 +51,19 @@ func (r *Reader) Count() (int, bool) {
 
 // Bytes reads how many bytes there are, and gives a copy of them.
 func (r *Reader) Bytes() ([]byte, bool) {
-	b, ok := r.counted()
+	b, ok := r.Cut()
 	return bytes.Clone(b), ok
 }
 
-// counted reads how many bytes there are, and gives them where they stand.
-func (r *Reader) counted() ([]byte, bool) {
+// Cut reads how many bytes there are, and gives them where they stand. Their
+// capacity is bounded, so that whoever puts something behind them does not
+// write what is still to be read.
+func (r *Reader) Cut() ([]byte, bool) {
 	n, ok := r.Count()
 	if !ok {
 		return nil, false
 	}
-	b := r.Rest[:n]
+	b := r.Rest[:n:n]
 	r.Rest = r.Rest[n:]
 	return b, true
 }
@@ -84,7 +86,7 @@ func (r *Reader) Value() (api.Value, bool) {
 }
 
 func (r *Reader) text() (string, bool) {
-	b, ok := r.counted()
+	b, ok := r.Cut()
 	return string(b), ok
 }
 

@@ -76,6 +76,31 @@ func TestW3Bytes(t *testing.T) {
 	}
 }
 
+// TestW3Cut: what is cut out stands where it stood, and nothing that is put
+// behind it or written into it reaches what follows.
+func TestW3Cut(t *testing.T) {
+	b := []byte("\x04ab\x00\x02c\x02d")
+	r := reader(b)
+	for i, want := range []string{"ab", "", "c", "d"} {
+		got, ok := r.Cut()
+		if string(got) != want || !ok || cap(got) != len(want) {
+			t.Fatalf("Cut %d: %q, %v, of the capacity %d, want %q", i, got, ok, cap(got), want)
+		}
+		_ = append(got, "zzz"...)
+		for k := range got {
+			got[k] = 'y'
+		}
+	}
+	if string(b) != "\x04yy\x00\x02y\x02y" || !r.Ended() {
+		t.Errorf("of what was cut %q is left", b)
+	}
+	for _, s := range []string{"", "\x06ab", "\x01", "\x80\x00"} {
+		if got, ok := reader([]byte(s)).Cut(); got != nil || ok {
+			t.Errorf("Cut of % x: %q", s, got)
+		}
+	}
+}
+
 func TestW3Values(t *testing.T) {
 	l := []api.Value{{}, value.Of(-3), value.Truth(true), value.Words(""), value.Words("a'b"), {}, {}, value.Of(math.MinInt64)}
 	for n := range len(l) + 1 {
