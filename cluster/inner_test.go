@@ -7,6 +7,7 @@ import (
 
 	"streamwright/api"
 	"streamwright/value"
+	"streamwright/wire"
 )
 
 // drained writes all that flows of each partition of each node.
@@ -64,4 +65,113 @@ func TestC1Fresh(t *testing.T) {
 	if got := drained(c); got != want {
 		t.Errorf("what flows: %s, want %s", got, want)
 	}
+}
+
+// filled gives a checkpoint with pieces of so many bytes.
+func filled(sizes ...int) api.Check {
+	k := api.Check{Mark: 7, Offsets: []api.Offset{{Node: 0, Part: 1, At: 3}, {Node: 0, Part: 0, At: 2}}}
+	for i, n := range sizes {
+		data := make([]byte, n)
+		for at := 0; at < n; at += 1000 {
+			data[at] = byte(at/1000 + i)
+		}
+		k.Pieces = append(k.Pieces, api.Held{Node: i / 2, Piece: api.Piece{Group: i, Bytes: data}})
+	}
+	return k
+}
+
+// same tells whether two checkpoints are.
+func same(a, b api.Check) bool {
+	return a.Mark == b.Mark && slices.Equal(a.Offsets, b.Offsets) && slices.EqualFunc(a.Pieces, b.Pieces, func(x, y api.Held) bool {
+		return x.Node == y.Node && x.Piece.Group == y.Piece.Group && string(x.Piece.Bytes) == string(y.Piece.Bytes)
+	})
+}
+
+// TestC6Files: a checkpoint is read from its file, and from no part of it.
+func TestC6Files(t *testing.T) {
+	for _, k := range []api.Check{{Mark: 1}, filled(), filled(0), filled(3, 0, 2500)} {
+		data := fileOf(k)
+		if got, ok := checkOf(data); !ok || !same(got, k) {
+			t.Errorf("of %v there is %v, %v", k, got, ok)
+		}
+		for n := range data {
+			if got, ok := checkOf(data[:n]); ok || !same(got, api.Check{}) {
+				t.Errorf("of %v the first %d bytes are whole: %v", k, n, got)
+			}
+		}
+	}
+	if _, ok := checkOf(append(fileOf(filled(3)), 0)); ok {
+		t.Error("with something behind it, it is whole")
+	}
+}
+
+// TestC6LongFiles: what is kept can be more than can be packed at once.
+func TestC6LongFiles(t *testing.T) {
+	const half = api.MaxBody / 2
+	k := filled(5, half, half, 7)
+	data := fileOf(k)
+	if got, ok := checkOf(data); !ok || !same(got, k) {
+		t.Fatalf("of so much %v is whole, with %d pieces", ok, len(got.Pieces))
+	}
+	// Cut where a part ends, it is not whole either.
+	_, end, err := wire.Open(data, 0)
+	if err != nil || end == len(data) {
+		t.Fatal(err, end)
+	}
+	for _, n := range []int{end, end + 9} {
+		if _, ok := checkOf(data[:n]); ok {
+			t.Errorf("the first %d of %d bytes are whole", n, len(data))
+		}
+	}
+}
+
+// TestC6Removes: a sync and a start leave the newest checkpoint, and no other
+// file.
+func TestC6Removes(t *testing.T) {
+	c, err := New("stream s (n int)\nsink x = s", nil)
+	if err != nil {
+		t.Fatal(err)
+	}
+	left := func(want string, loose int) {
+		t.Helper()
+		if names := fmt.Sprint(c.disk.Names()); names != want || c.disk.Loose() != loose {
+			t.Errorf("on the disk are %s, %d loose, want %s, %d", names, c.disk.Loose(), want, loose)
+		}
+	}
+	acts := func(kinds ...int) {
+		for _, kind := range kinds {
+			c.Do(api.Act{Kind: kind, Par: []int{1, 1}})
+		}
+	}
+	checkpoint := func() {
+		acts(api.ActMark, api.ActRun, api.ActHear)
+		for range 3 {
+			c.Do(api.Act{Kind: api.ActRun, A: 1})
+		}
+		acts(api.ActHear)
+	}
+	acts(api.ActStart)
+	checkpoint()
+	left("[1]", 1)
+	checkpoint()
+	left("[1 2]", 2)
+	acts(api.ActSync)
+	left("[2]", 0)
+	for range 8 {
+		checkpoint()
+	}
+	left("[10 2 3 4 5 6 7 8 9]", 8)
+	c.Do(api.Act{Kind: api.ActCrash, A: 7})
+	left("[10 2 3 4 5 6 7 8 9]", 0)
+	acts(api.ActStart)
+	left("[9]", 0)
+	checkpoint()
+	left("[10 9]", 1)
+	acts(api.ActSync)
+	left("[10]", 0)
+	checkpoint()
+	acts(api.ActCrash)
+	left("[10 11]", 0)
+	acts(api.ActStart)
+	left("[10]", 0)
 }
